@@ -1,0 +1,1 @@
+"""Nodes that part: processes on several nodes, joined across wires that break."""
