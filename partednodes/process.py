@@ -3,6 +3,12 @@
 # Numbers of cuts begin with 1, so 0 can't be one.
 HOLDS = 0
 
+# What a note in a box begins with.
+WORD_CAME = 0
+LINKED_ONE_ENDED = 1
+WATCHED_ONE_ENDED = 2
+END_WAS_SENT = 3
+
 
 class Process:
 
@@ -18,10 +24,13 @@ class Process:
         self.watches = {}
         # Number: whose, in the order in which they came.
         self.watched_by = {}
+        # Notes of three numbers each, the oldest first.
+        self.box = []
 
     def link_holds(self, q):
         return q in self.links and self.links[q] == HOLDS
 
+    # The box stays, as it was: what came before the end can still be asked for.
     def end_with(self, why):
         self.lives = False
         self.why = why

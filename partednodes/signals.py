@@ -10,6 +10,11 @@ WATCH = 6
 UNWATCH = 7
 GONE = 8
 
+# The whys that have a meaning of their own.
+AS_IT_SHOULD = 0
+TO_BE_KILLED = 1
+KILLED = 2
+NOBODY_THERE = 3
 CONNECTION_LOST = 4
 
 

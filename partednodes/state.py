@@ -1,7 +1,7 @@
 """A world: its processes, the wires between its nodes, and what is on its way."""
 
 from partednodes.process import Process
-from partednodes.signals import CONNECTION_LOST, ENDED, GONE, UNWATCH, comes_back
+from partednodes.signals import AS_IT_SHOULD, CONNECTION_LOST, ENDED, GONE, UNWATCH, comes_back
 
 NO_CONNECTION = 0
 WITHIN_A_NODE = 0
@@ -21,6 +21,8 @@ class World:
         self.last_number = 0
         # Each node has a connection of its own to each other: one side may lose it before the other.
         self.connections = {(1, 2): 1, (2, 1): 1, (1, 3): 2, (3, 1): 2, (2, 3): 3, (3, 2): 3}
+        self.last_connection = 3
+        # In the order in which the wires are told.
         self.broken = {(1, 2): False, (1, 3): False, (2, 3): False}
 
     def has_process(self, p):
@@ -37,6 +39,10 @@ class World:
     def new_number(self):
         self.last_number += 1
         return self.last_number
+
+    def new_connection(self):
+        self.last_connection += 1
+        return self.last_connection
 
     def send(self, p, q, signal):
         here = self.process(p).node
@@ -64,3 +70,10 @@ class World:
         for number, q in process.watches.items():
             self.send(p, q, (UNWATCH, number))
         process.end_with(why)
+
+    def end_comes(self, p, why, note):
+        process = self.process(p)
+        if process.traps == 1:
+            process.box.append(note)
+        elif why != AS_IT_SHOULD:
+            self.end(p, why)

@@ -1,23 +1,33 @@
 """The calls on a world, and the answers to a list of them."""
 
+from partednodes.arrival import arrive
+from partednodes.loss import join_nodes, notice_loss
 from partednodes.process import HOLDS
 from partednodes.signals import CUT, LINK, STOP, UNWATCH, WATCH, WORD
-from partednodes.state import World
+from partednodes.state import NO_CONNECTION, World, wire_between
+from partednodes.telling import one_if, told_of_air, told_of_box, told_of_process, told_of_wires
 
 # Refusals, but for FITS, which says that there is none.
 FITS = 0
 NO_SUCH = -1
+NOT_SO_NOW = -4
+NONE_ON_ITS_WAY = -5
 TOO_MANY = -6
 HAS_ENDED = -8
 
 NODES = 3
 MOST_PROCESSES = 12
 MOST_SIGNALS = 200
+MOST_TURNS = 1000
 GREATEST_WHY = 99
 
 # How a child is joined to its parent; with 0 it isn't.
 LINKED = 1
 WATCHED = 2
+
+
+def is_node(number):
+    return 1 <= number <= NODES
 
 
 def process_refusal(world, p):
@@ -66,8 +76,14 @@ def child_refusal(world, p, how):
     return room_refusal(world)
 
 
+def wire_refusal(a, b):
+    if a == b or not is_node(a) or not is_node(b):
+        return NO_SUCH
+    return FITS
+
+
 def start(world, node):
-    if not 1 <= node <= NODES:
+    if not is_node(node):
         return [NO_SUCH]
     refusal = room_refusal(world)
     if refusal != FITS:
@@ -97,10 +113,10 @@ def link(world, p, q):
     refusal = joining_refusal(world, p, q)
     if refusal != FITS:
         return [refusal]
-    process = world.process(p)
-    if process.link_holds(q):
+    caller = world.process(p)
+    if caller.link_holds(q):
         return [0]
-    process.links[q] = HOLDS
+    caller.links[q] = HOLDS
     world.send(p, q, (LINK,))
     return [1]
 
@@ -109,11 +125,11 @@ def cut(world, p, q):
     refusal = joining_refusal(world, p, q)
     if refusal != FITS:
         return [refusal]
-    process = world.process(p)
-    if not process.link_holds(q):
+    caller = world.process(p)
+    if not caller.link_holds(q):
         return [0]
     number = world.new_number()
-    process.links[q] = number
+    caller.links[q] = number
     world.send(p, q, (CUT, number))
     return [1]
 
@@ -122,9 +138,9 @@ def watch(world, p, q):
     refusal = joining_refusal(world, p, q)
     if refusal != FITS:
         return [refusal]
-    process = world.process(p)
+    caller = world.process(p)
     number = world.new_number()
-    process.watches[number] = q
+    caller.watches[number] = q
     world.send(p, q, (WATCH, number))
     return [number]
 
@@ -133,13 +149,13 @@ def unwatch(world, p, k):
     refusal = process_refusal(world, p)
     if refusal != FITS:
         return [refusal]
-    process = world.process(p)
-    if k not in process.watches:
+    caller = world.process(p)
+    if k not in caller.watches:
         return [0]
     refusal = air_refusal(world)
     if refusal != FITS:
         return [refusal]
-    q = process.watches.pop(k)
+    q = caller.watches.pop(k)
     world.send(p, q, (UNWATCH, k))
     return [1]
 
@@ -170,9 +186,9 @@ def trap(world, p, yes):
     refusal = process_refusal(world, p)
     if refusal != FITS:
         return [refusal]
-    process = world.process(p)
-    before = process.traps
-    process.traps = yes
+    caller = world.process(p)
+    before = caller.traps
+    caller.traps = yes
     return [before]
 
 
@@ -184,13 +200,97 @@ def say(world, p, q, n):
     return [0]
 
 
+# None if there is none.
+def place_of_first(world, p, q):
+    for place, sent in enumerate(world.air):
+        if sent[0] == p and sent[1] == q:
+            return place
+    return None
+
+
+# Either may have ended: what is on its way arrives all the same.
+def deliver(world, p, q):
+    if not world.has_process(p) or not world.has_process(q):
+        return [NO_SUCH]
+    place = place_of_first(world, p, q)
+    if place is None:
+        return [NONE_ON_ITS_WAY]
+    numbers = list(world.air[place][2])
+    numbers.append(one_if(arrive(world, place)))
+    return numbers
+
+
+def turns(world, n):
+    if n > MOST_TURNS:
+        return [NO_SUCH]
+    arrived = 0
+    while arrived < n and len(world.air) > 0:
+        arrive(world, 0)
+        arrived += 1
+    return [arrived]
+
+
+def box(world, p):
+    if not world.has_process(p):
+        return [NO_SUCH]
+    return told_of_box(world.process(p).box)
+
+
+def process(world, p):
+    if not world.has_process(p):
+        return [NO_SUCH]
+    return told_of_process(world.process(p))
+
+
+def air(world):
+    return told_of_air(world.air)
+
+
+def break_wire(world, a, b):
+    refusal = wire_refusal(a, b)
+    if refusal != FITS:
+        return [refusal]
+    wire = wire_between(a, b)
+    if world.broken[wire]:
+        return [NOT_SO_NOW]
+    world.broken[wire] = True
+    return [0]
+
+
+def notice(world, a, b):
+    refusal = wire_refusal(a, b)
+    if refusal != FITS:
+        return [refusal]
+    lost = world.connections[(a, b)]
+    if lost == NO_CONNECTION or not world.broken[wire_between(a, b)]:
+        return [NOT_SO_NOW]
+    notice_loss(world, a, b)
+    return [lost]
+
+
+def join(world, a, b):
+    refusal = wire_refusal(a, b)
+    if refusal != FITS:
+        return [refusal]
+    return [join_nodes(world, a, b)]
+
+
+def wires(world):
+    return told_of_wires(world)
+
+
 # A call's number is its place here; COUNTS tells in the same place how many numbers it takes.
-CALLS = (start, child, link, cut, watch, unwatch, ends, stop, trap, say)
-COUNTS = (1, 2, 2, 2, 2, 2, 2, 3, 2, 3)
+CALLS = (
+    start, child, link, cut, watch, unwatch, ends, stop, trap, say,
+    deliver, turns, box, process, air, break_wire, notice, join, wires,
+)
+COUNTS = (1, 2, 2, 2, 2, 2, 2, 3, 2, 3, 2, 1, 1, 1, 0, 2, 2, 2, 0)
 
 
 def answer(world, number, values):
     call = CALLS[number]
+    if len(values) == 0:
+        return call(world)
     if len(values) == 1:
         return call(world, values[0])
     if len(values) == 2:

@@ -1,11 +1,17 @@
-"""What the tests share: calls told by their names, and a picture of a world."""
+"""What the tests share: calls told by their names, a picture of a world, and how a refusal is looked at."""
+
+import unittest
 
 from partednodes import world as program
 from partednodes.state import World
 
 GREATEST = 4294967295
 
-NAMES = ("start", "child", "link", "cut", "watch", "unwatch", "ends", "stop", "trap", "say")
+NAMES = ("start", "child", "link", "cut", "watch", "unwatch", "ends", "stop", "trap", "say",
+         "deliver", "turns", "box", "process", "air", "break", "notice", "join", "wires")
+
+# 1 and 4 on node 1, 2 and 5 on node 2, 3 and 6 on node 3.
+SIX = [("start", node) for node in (1, 2, 3, 1, 2, 3)]
 
 
 def flat(calls):
@@ -40,6 +46,11 @@ def last(calls):
     return ask(calls)[-1]
 
 
+def behind(before, *calls):
+    """The answers to these calls alone, behind those before."""
+    return ask(list(before) + list(calls))[len(before):]
+
+
 def call_on(world, call):
     """The answer to one call on a world of the test's own."""
     return program.CALLS[NAMES.index(call[0])](world, *call[1:])
@@ -68,3 +79,38 @@ def picture(value):
     if hasattr(value, "__dict__"):
         return picture(vars(value))
     return value
+
+
+def living(node, traps=0, links=(), watches=(), watched_by=()):
+    """What process answers of one who lives; links and the others as pairs."""
+    told = [node, 1, 0, traps]
+    for pairs in (links, watches, watched_by):
+        told.append(len(pairs))
+        for pair in pairs:
+            told.extend(pair)
+    return told
+
+
+def ended(node, why, traps=0):
+    """What process answers of one who has ended."""
+    return [node, 0, why, traps, 0, 0, 0]
+
+
+class Refusing(unittest.TestCase):
+
+    def refused_on(self, world, call, number):
+        with self.subTest(call=call, number=number):
+            was = picture(world)
+            self.assertEqual(call_on(world, call), [number])
+            self.assertEqual(picture(world), was)
+
+    def refused(self, before, call, number):
+        self.refused_on(world_behind(before), call, number)
+        with self.subTest(before=before, call=call):
+            self.assertEqual(last(before + [call]), [number])
+
+    def taken(self, before, call):
+        with self.subTest(before=before, call=call):
+            answer = last(before + [call])
+            self.assertTrue(answer)
+            self.assertGreaterEqual(min(answer), 0)

@@ -2,11 +2,14 @@
 
 import unittest
 
-from asking import GREATEST, ask, call_on, last, picture, world_behind
+from asking import GREATEST, Refusing, ask, last
 
 THREE = [("start", 1), ("start", 2), ("start", 1)]
 
-# Calls that fit in the world behind THREE, and which of their values are processes.
+# With something on its way between those whom deliver is to tell.
+SPOKEN = THREE + [("say", 1, 2, 0), ("say", 3, 2, 0), ("say", 1, 3, 0)]
+
+# Calls that fit in the world behind SPOKEN, and which of their values are processes.
 FITTING = {
     "child": ((1, 0), (0,)),
     "link": ((1, 2), (0, 1)),
@@ -17,24 +20,10 @@ FITTING = {
     "stop": ((1, 2, 0), (0, 1)),
     "trap": ((1, 0), (0,)),
     "say": ((1, 2, 0), (0, 1)),
+    "deliver": ((1, 2), (0, 1)),
+    "box": ((1,), (0,)),
+    "process": ((1,), (0,)),
 }
-
-
-class Refusing(unittest.TestCase):
-
-    def refused(self, before, call, number):
-        with self.subTest(before=before, call=call):
-            self.assertEqual(last(before + [call]), [number])
-            world = world_behind(before)
-            was = picture(world)
-            self.assertEqual(call_on(world, call), [number])
-            self.assertEqual(picture(world), was)
-
-    def taken(self, before, call):
-        with self.subTest(before=before, call=call):
-            answer = last(before + [call])
-            self.assertTrue(answer)
-            self.assertGreaterEqual(min(answer), 0)
 
 
 class Nodes(Refusing):
@@ -58,17 +47,22 @@ class Processes(Refusing):
     def test_the_last_one_started(self):
         for name, (values, places) in FITTING.items():
             for place in places:
-                self.taken(THREE, self.with_value(name, place, 3))
+                self.taken(SPOKEN, self.with_value(name, place, 3))
 
     def test_none_the_one_behind_and_the_greatest(self):
         for name, (values, places) in FITTING.items():
             for place in places:
                 for value in (0, 4, 5, GREATEST):
-                    self.refused(THREE, self.with_value(name, place, value), -1)
+                    self.refused(SPOKEN, self.with_value(name, place, value), -1)
 
     def test_in_an_empty_world(self):
         for name, (values, places) in FITTING.items():
             self.refused([], (name, *values), -1)
+
+    def test_one_that_has_ended_is_told_of_all_the_same(self):
+        before = SPOKEN + [("ends", 1, 7), ("ends", 2, 8)]
+        for call in (("deliver", 1, 2), ("deliver", 3, 2), ("deliver", 1, 3), ("box", 1), ("process", 2)):
+            self.taken(before, call)
 
     def test_the_same_twice(self):
         for name in ("link", "cut", "watch"):

@@ -2,7 +2,7 @@
 
 import unittest
 
-from asking import GREATEST, call_on, fill_air, last, picture, world_behind
+from asking import GREATEST, Refusing, call_on, fill_air, last, world_behind
 
 THREE = [("start", 1), ("start", 2), ("start", 1)]
 
@@ -36,6 +36,16 @@ NOT_SENDING = (
     (("unwatch", 1, GREATEST), [0]),
     (("ends", 1, 0), [0]),
     (("trap", 1, 1), [0]),
+    (("deliver", 1, 2), [6, 1, 1]),
+    (("deliver", 1, 3), [1, 1]),
+    (("turns", 0), [0]),
+    (("turns", 4), [4]),
+    (("box", 1), [0]),
+    (("process", 2), [2, 1, 0, 0, 0, 0, 0]),
+    (("break", 1, 2), [0]),
+    (("join", 1, 2), [4]),
+    (("join", 3, 2), [4]),
+    (("wires",), [1, 1, 0, 2, 2, 0, 3, 3, 0]),
 )
 
 OF_PROCESS_1 = (
@@ -43,20 +53,6 @@ OF_PROCESS_1 = (
     ("unwatch", 1, 1), ("unwatch", 1, 9), ("ends", 1, 0), ("stop", 1, 2, 0), ("stop", 1, 1, 0),
     ("trap", 1, 0), ("trap", 1, 1), ("say", 1, 2, 0), ("say", 1, 1, 0),
 )
-
-
-class Refusing(unittest.TestCase):
-
-    def refused_on(self, world, call, number):
-        with self.subTest(call=call, number=number):
-            was = picture(world)
-            self.assertEqual(call_on(world, call), [number])
-            self.assertEqual(picture(world), was)
-
-    def refused(self, before, call, number):
-        self.refused_on(world_behind(before), call, number)
-        with self.subTest(before=before, call=call):
-            self.assertEqual(last(before + [call]), [number])
 
 
 class Ended(Refusing):
@@ -136,11 +132,39 @@ class TwoHundredSignals(Refusing):
                 with self.subTest(call=call, count=count):
                     self.assertEqual(call_on(self.filled(JOINED, count), call), answer)
 
+    def test_all_of_them_are_told_and_arrive(self):
+        for count in (199, 200, 201):
+            with self.subTest(count=count):
+                self.assertEqual(call_on(self.filled(THREE, count), ("air",)), [count] + [1, 1, 0, 7, 0] * count)
+                self.assertEqual(call_on(self.filled(THREE, count), ("turns", 1000)), [count])
+
+    def test_a_loss_is_noticed_all_the_same(self):
+        for count in (199, 200, 201):
+            with self.subTest(count=count):
+                world = self.filled(JOINED + [("break", 1, 2)], count)
+                self.assertEqual(call_on(world, ("notice", 1, 2)), [1])
+
+    def test_an_answer_is_sent_beyond_two_hundred(self):
+        world = self.filled(THREE + [("link", 1, 3), ("cut", 1, 3)], 230)
+        self.assertEqual(call_on(world, ("deliver", 1, 3)), [1, 1])
+        self.assertEqual(call_on(world, ("deliver", 1, 3)), [2, 1, 1])
+        self.assertEqual((len(world.air), world.air[-1]), (229, (3, 1, (3, 1), 0)))
+
     def test_an_end_sends_beyond_two_hundred(self):
         world = self.filled(JOINED, 200)
         self.assertEqual(call_on(world, ("ends", 1, 6)), [0])
         self.assertEqual(world.air[200:], [(1, 2, (4, 6), 1), (1, 2, (7, 1), 1)])
         self.refused_on(world, ("say", 2, 2, 0), -6)
+
+    def test_one_that_arrives_makes_room_for_one(self):
+        world = self.filled(THREE, 200)
+        self.refused_on(world, ("say", 3, 2, 8), -6)
+        self.assertEqual(call_on(world, ("deliver", 1, 1)), [0, 7, 1])
+        self.assertEqual(call_on(world, ("say", 3, 2, 8)), [0])
+        self.refused_on(world, ("say", 3, 2, 8), -6)
+        self.assertEqual(call_on(world, ("turns", 1)), [1])
+        self.assertEqual(call_on(world, ("watch", 3, 2)), [1])
+        self.refused_on(world, ("watch", 3, 2), -6)
 
     def test_the_two_hundredth_is_sent_and_no_other(self):
         world = self.filled(THREE, 199)

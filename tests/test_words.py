@@ -2,10 +2,7 @@
 
 import unittest
 
-from asking import call_on, world_behind
-
-# 1 and 4 on node 1, 2 and 5 on node 2, 3 and 6 on node 3.
-SIX = [("start", node) for node in (1, 2, 3, 1, 2, 3)]
+from asking import SIX, call_on, world_behind
 
 SIGNALS = ((0, 70), (1,), (2, 71), (3, 72), (4, 73), (5, 74), (6, 75), (7, 76), (8, 77, 78))
 BACK = {(1,): (4, 4), (2, 71): (3, 71), (6, 75): (8, 75, 4)}
